@@ -1,0 +1,1 @@
+"""A processor whose orders overlap in five stages."""
