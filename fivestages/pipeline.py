@@ -73,6 +73,9 @@ class Pipeline:
         else:
             self.to_reckon = None if read is None else self.read_registers(read)
             self.to_read = self.fetch() if self.fetches else None
+        # Last of all: the order that is fetched in this cycle is guessed by the numbers as they stood ahead of it.
+        if reckoned is not None and reckoned[0].branches:
+            self.learn(self.in_memory)
 
     def write(self, written):
         order = written[0]
@@ -110,15 +113,15 @@ class Pipeline:
         order = told[0]
         if not order.branches:
             return None
-        goes = told[1] == 1
-        self.learn(order.guess_at, goes)
-        right_place = order.aim if goes else order.following
+        right_place = order.aim if told[1] == 1 else order.following
         fetched_place = self.place if self.to_read is None else self.to_read.place
         return None if right_place == fetched_place else right_place
 
-    def learn(self, guess_at, goes):
+    def learn(self, told):
+        """Change the guess of an order 9 or 10 by where it went."""
+        guess_at = told[0].guess_at
         guess = self.guesses[guess_at]
-        self.guesses[guess_at] = min(3, guess + 1) if goes else max(0, guess - 1)
+        self.guesses[guess_at] = min(3, guess + 1) if told[1] == 1 else max(0, guess - 1)
 
     def lose_guessed(self, right_place):
         """Take back what was guessed: an order 12 among it no longer keeps others from being fetched."""

@@ -113,7 +113,7 @@ class Timetable:
         guesses, told_later, writers = [1] * 16, [], {}
         fetched, ahead = 1, None
         for step in self.steps:
-            while told_later and told_later[0].reckoned <= fetched:
+            while told_later and told_later[0].reckoned < fetched:
                 known = told_later.pop(0)
                 number = guesses[known.place & 15] + (1 if known.goes else -1)
                 guesses[known.place & 15] = min(3, max(0, number))

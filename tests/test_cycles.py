@@ -329,10 +329,37 @@ class Guesses(unittest.TestCase):
                 expected[place % 16] = 2
                 self.assertEqual(self.guesses_after(words, way), expected)
 
-    def test_what_is_learned_in_a_cycle_counts_for_what_is_fetched_in_it(self):
-        words = [order(9, 0, 0, 0, 1), order(11, 0, 0, 0, 15)] + [order(12)] * 14
-        words += [order(9, 0, 0, 0, 2), add(1), add(2)]
-        self.assertEqual(run_out(words, 2), [9, 4, 0, 0])
+    def test_one_more_in_a_cycle_counts_from_the_next_on(self):
+        # Place 0 is reckoned in cycle 3 and place 16 fetched in it, or one cycle later.
+        branch, end = order(9, 0, 0, 0, 1), [order(9, 0, 0, 0, 2), add(1), add(2)]
+        same_cycle = [branch, order(11, 0, 0, 0, 15)] + [order(12)] * 14 + end
+        next_cycle = [branch, add(3), order(11, 0, 0, 0, 14)] + [order(12)] * 13 + end
+        for way in (2, 3):
+            self.assertEqual(shown(same_cycle, way, 4), [0, 17, 16, 1, 0, 4, 0, 0, 0])
+            self.assertEqual(run_out(same_cycle, way), [11, 4, 0, 2])
+            self.assertEqual(shown(next_cycle, way, 5), [0, 18, 16, 2, 1, 5, 1, 0, 0])
+            self.assertEqual(run_out(next_cycle, way), [10, 5, 0, 0])
+
+    def test_one_less_in_a_cycle_counts_from_the_next_on(self):
+        # Place 0 makes the guess 2; place 16 is reckoned in cycle 6 and place 32 fetched in it, or one cycle later.
+        start = [order(9, 0, 0, 0, 1), order(11, 0, 0, 0, 14)] + [order(12)] * 13 + [add(1), order(10, 0, 0, 0, 1)]
+        end = [order(9, 0, 0, 0, 2), add(2), add(3)]
+        same_cycle = start + [order(11, 0, 0, 0, 15)] + [order(12)] * 14 + end
+        next_cycle = start + [add(4), order(11, 0, 0, 0, 14)] + [order(12)] * 13 + end
+        for way in (2, 3):
+            self.assertEqual(shown(same_cycle, way, 7), [0, 34, 32, 17, 16, 7, 3, 0, 0])
+            self.assertEqual(run_out(same_cycle, way), [12, 7, 0, 0])
+            self.assertEqual(shown(next_cycle, way, 8), [0, 33, 32, 18, 17, 8, 4, 0, 0])
+            self.assertEqual(run_out(next_cycle, way), [15, 8, 0, 2])
+
+    def test_learned_in_a_cycle_in_which_nothing_is_fetched(self):
+        waiting = [add(1), order(9, 0, 0, 0, 1), add(2, 1)]
+        wrong = [add(1), order(9, 0, 0, 0, 2), add(2)]
+        behind_an_end = [add(1), order(9, 0, 0, 0, 1), order(12)]
+        for way in range(4):
+            for words in (waiting, wrong, behind_an_end):
+                self.assertEqual(self.guesses_after(words, way), [1, 2] + [1] * 14)
+        self.assertEqual(shown(waiting, 0, 4)[7], 1)
 
     def test_a_guess_to_go_that_is_wrong(self):
         words = [order(9, 0, 0, 0, 1)] + [add(2)] * 15 + [order(10, 0, 0, 0, 2), add(3), add(4)]
